@@ -1,0 +1,1 @@
+"""A line laid over ground, station by station."""
