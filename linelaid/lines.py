@@ -31,6 +31,12 @@ def cost_of(road, row):
     return cut_of(road, row) * road.cut_price + filled_of(road, row) * road.fill_price
 
 
+def least_cost(road):
+    """What the cheapest line costs; None where there's no line."""
+    row = cheapest(road)
+    return None if row is None else cost_of(road, row)
+
+
 def cheapest(road):
     """The heights of the cheapest line, the first of like ones; None where there's no line."""
     onward = costs_onward(road)

@@ -1,7 +1,7 @@
-"""The calls that look at a road's lines and change nothing."""
+"""The calls that look at the cheapest line, or at one that is handed in."""
 
 from linelaid.limits import are_heights
-from linelaid.lines import cheapest, cost_of, cut_of, filled_of, is_line
+from linelaid.lines import cheapest, cost_of, cut_of, filled_of, is_line, least_cost
 from linelaid.refusals import NO_LINE, OUT_OF_RANGE
 
 
@@ -10,10 +10,8 @@ def can(road):
 
 
 def cost(road):
-    row = cheapest(road)
-    if row is None:
-        return [NO_LINE]
-    return [cost_of(road, row)]
+    least = least_cost(road)
+    return [NO_LINE if least is None else least]
 
 
 def line(road):
@@ -37,3 +35,33 @@ def tried(road, row):
     if not is_line(road, row):
         return [NO_LINE]
     return [cost_of(road, row), cut_of(road, row), filled_of(road, row)]
+
+
+def steep(road):
+    row = cheapest(road)
+    if row is None:
+        return [NO_LINE]
+    starts = [start for start in range(len(row) - 1) if abs(row[start + 1] - row[start]) == road.grade]
+    return [len(starts)] + starts
+
+
+def flat(road):
+    row = cheapest(road)
+    if row is None:
+        return [NO_LINE]
+    return longest_level(row)
+
+
+def longest_level(row):
+    """How many stations the longest stretch of one height has, then where it begins: of like ones the first."""
+    longest = 0
+    longest_start = 0
+    start = 0
+    for station, height in enumerate(row):
+        if height != row[start]:
+            start = station
+        many = station - start + 1
+        if many > longest:
+            longest = many
+            longest_start = start
+    return [longest, longest_start]

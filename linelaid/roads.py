@@ -73,10 +73,9 @@ class Road:
             return [AN_END]
         if not is_height(height):
             return [OUT_OF_RANGE]
-        before = self.told[station]
+        before = self.one_more_than_told(station)
         self.told[station] = height
-        # A told height of 0 must differ from none told, so it's answered one greater.
-        return [0 if before is None else before + 1]
+        return [before]
 
     def free(self, station):
         if not self.has_station(station):
@@ -88,6 +87,24 @@ class Road:
             return [NONE_TOLD]
         self.told[station] = None
         return [before]
+
+    def copied(self):
+        """Another road like this one: what would be is asked of it, so that this one stays as it is."""
+        other = Road()
+        other.ground = list(self.ground)
+        other.told = list(self.told)
+        other.grade = self.grade
+        other.cut_price = self.cut_price
+        other.fill_price = self.fill_price
+        return other
+
+    def told_stations(self):
+        return [station for station, height in enumerate(self.told) if height is not None]
+
+    def one_more_than_told(self, station):
+        # A told height of 0 must differ from none told.
+        told = self.told[station]
+        return 0 if told is None else told + 1
 
     def has_station(self, station):
         return station < len(self.ground)

@@ -1,8 +1,11 @@
 """The calls on one road, handed in and answered as one list of whole numbers each."""
 
-from linelaid.looks import can, cost, earth, line, tried
+from linelaid.bounds import between, leastgrade, why
+from linelaid.looks import can, cost, earth, flat, line, steep, tried
+from linelaid.records import profile, state, station
 from linelaid.refusals import NOT_BEGUN
 from linelaid.roads import Road
+from linelaid.what_if import ifgrade, through, worth
 
 BEGIN = 0
 ENDS = 1
@@ -16,8 +19,19 @@ COST = 8
 LINE = 9
 EARTH = 10
 TRIED = 11
+WHY = 12
+LEASTGRADE = 13
+IFGRADE = 14
+BETWEEN = 15
+THROUGH = 16
+WORTH = 17
+STEEP = 18
+FLAT = 19
+STATION = 20
+PROFILE = 21
+STATE = 22
 
-# By a call's number, those not built yet too: before a begin each of them is read and answers -11.
+# By a call's number; a row isn't counted, as its length is handed in.
 HOW_MANY_NUMBERS = (0, 2, 1, 2, 2, 2, 1, 0, 0, 0, 0, 0, 0, 0, 1, 1, 2, 1, 0, 0, 1, 0, 0)
 
 
@@ -76,6 +90,23 @@ def answer_change(road, call, given):
 
 
 def answer_look(road, call, given):
+    if call == TRIED:
+        return tried(road, given)
+    if call == IFGRADE:
+        return ifgrade(road, given[0])
+    if call == BETWEEN:
+        return between(road, given[0])
+    if call == THROUGH:
+        return through(road, given[0], given[1])
+    if call == WORTH:
+        return worth(road, given[0])
+    if call == STATION:
+        return station(road, given[0])
+    return answer_bare_look(road, call)
+
+
+def answer_bare_look(road, call):
+    """The answer to a look that is handed in as its number alone."""
     if call == CAN:
         return can(road)
     if call == COST:
@@ -84,6 +115,14 @@ def answer_look(road, call, given):
         return line(road)
     if call == EARTH:
         return earth(road)
-    if call == TRIED:
-        return tried(road, given)
-    raise NotImplementedError(f"call {call} is not built yet")
+    if call == WHY:
+        return why(road)
+    if call == LEASTGRADE:
+        return leastgrade(road)
+    if call == STEEP:
+        return steep(road)
+    if call == FLAT:
+        return flat(road)
+    if call == PROFILE:
+        return profile(road)
+    return state(road)

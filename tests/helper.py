@@ -1,12 +1,13 @@
 """How the tests say calls and read answers, and a second way to find the cheapest line."""
 
-from itertools import product
+from itertools import groupby
 
 from linelaid.stations import answers
 
 GREATEST = 4294967295
 GREATEST_IN_ROW = 65535
 NOT_BEGUN, NO_STATION, NONE_TOLD, AN_END, OUT_OF_RANGE, NO_LINE = -11, -2, -6, -16, -22, -33
+NONE_TOO_FAR = -17
 
 
 def begin(*ground):
@@ -44,6 +45,35 @@ def tried(*row):
     return [11, len(row), *row]
 
 
+WHY, LEASTGRADE = [12], [13]
+
+
+def ifgrade(k):
+    return [14, k]
+
+
+def between(i):
+    return [15, i]
+
+
+def through(i, x):
+    return [16, i, x]
+
+
+def worth(i):
+    return [17, i]
+
+
+STEEP, FLAT = [18], [19]
+
+
+def station(i):
+    return [20, i]
+
+
+PROFILE, STATE = [21], [22]
+
+
 def say(*calls):
     """The answers, a list for each call."""
     handed = [number for call in calls for number in call]
@@ -76,8 +106,12 @@ def last(*calls):
 
 
 def probe(stations):
-    """Calls that between them tell all that is kept of a road with so many stations."""
-    calls = [CAN, COST, LINE, EARTH, ends(0, 0), grade(0), price(1, 1)]
+    """Calls that between them tell all that is kept of a road with so many stations.
+
+    What looking tells comes first, then what the changing calls tell of what was.
+    """
+    calls = [CAN, COST, LINE, EARTH, PROFILE, STATE, *[station(i) for i in range(stations)]]
+    calls += [ends(0, 0), grade(0), price(1, 1)]
     calls += [ground(i, 0) for i in range(stations)]
     calls += [fix(i, 0) for i in range(1, stations - 1)]
     return calls
@@ -94,7 +128,7 @@ class Told:
 
     def calls(self):
         end = len(self.ground) - 1
-        inner = [fix(i, x) for i, x in sorted(self.fixed.items()) if i not in (0, end)]
+        inner = [fix(i, self.fixed[i]) for i in self.inner()]
         ends_told = ends(self.fixed[0], self.fixed[end])
         return [begin(*self.ground), ends_told, grade(self.grade), price(*self.prices), *inner]
 
@@ -113,17 +147,12 @@ class Told:
         return all(abs(row[i] - row[i + 1]) <= self.grade for i in range(len(row) - 1))
 
     def lines(self):
-        """Every line, the first one first: slow, so for few stations and small grades."""
-        start = self.fixed[0]
-        steps = range(-self.grade, self.grade + 1)
-        found = []
-        for walk in product(steps, repeat=len(self.ground) - 1):
-            row = [start]
-            for step in walk:
-                row.append(row[-1] + step)
-            if all(0 <= h <= 40 for h in row) and self.is_line(row):
-                found.append(row)
-        return found
+        """Every line, the first one first: for few stations, or small grades."""
+        rows = [[self.fixed[0]]]
+        for i in range(1, len(self.ground)):
+            heights = [self.fixed[i]] if i in self.fixed else range(41)
+            rows = [row + [h] for row in rows for h in heights if abs(h - row[-1]) <= self.grade]
+        return rows
 
     def cheapest(self):
         """The cheapest line, or None: from the first station on, with whole lines kept for each height."""
@@ -144,5 +173,50 @@ class Told:
         return max(0, self.ground[i] - h) * cut_price + max(0, h - self.ground[i]) * fill_price
 
     def too_far(self):
+        """The stations of told heights too far off one another, the first two first."""
         told = sorted(self.fixed.items())
-        return any(abs(x - y) > self.grade * (j - i) for i, x in told for j, y in told if i < j)
+        return [(i, j) for i, x in told for j, y in told if i < j and abs(x - y) > self.grade * (j - i)]
+
+    def but(self, grade=None, told=(), free=None):
+        """The same road but for the grade, a height told or one not told."""
+        fixed = {i: x for i, x in {**self.fixed, **dict(told)}.items() if i != free}
+        other = Told(self.ground, self.grade if grade is None else grade, self.prices)
+        other.fixed = fixed
+        return other
+
+    def least(self):
+        """As cost answers."""
+        best = self.cheapest()
+        return NO_LINE if best is None else self.cost(best)
+
+    def through(self, i, x):
+        """What the cheapest line costs of those that have height x there."""
+        return NO_LINE if self.fixed.get(i, x) != x else self.but(told={i: x}).least()
+
+    def heights_at(self, i):
+        """The heights that a line may have there, gone to from both ends step by step."""
+        return sorted(self.reached(range(i + 1)) & self.reached(range(len(self.ground) - 1, i - 1, -1)))
+
+    def reached(self, way):
+        heights = None
+        for i in way:
+            allowed = {self.fixed[i]} if i in self.fixed else set(range(41))
+            if heights is not None:
+                allowed = {h for h in allowed if any(abs(h - b) <= self.grade for b in heights)}
+            heights = allowed
+        return heights
+
+    def steep(self, row):
+        starts = [i for i in range(len(row) - 1) if row[i + 1] - row[i] in (self.grade, -self.grade)]
+        return [len(starts), *starts]
+
+    def inner(self):
+        """The told stations that are no ends."""
+        return sorted(i for i in self.fixed if i not in (0, len(self.ground) - 1))
+
+
+def flat(row):
+    """How many stations the longest stretch of one height has, then where it begins."""
+    stretches = [[i for i, h in stretch] for h, stretch in groupby(enumerate(row), lambda pair: pair[1])]
+    best = max(stretches, key=len)
+    return [len(best), best[0]]

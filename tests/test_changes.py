@@ -4,7 +4,7 @@ import unittest
 
 from tests.helper import (
     AN_END, CAN, COST, GREATEST, GREATEST_IN_ROW, LINE, NO_STATION, NONE_TOLD, NOT_BEGUN, OUT_OF_RANGE,
-    begin, ends, fix, free, grade, ground, last, price, probe, say, tried,
+    begin, between, ends, fix, free, grade, ground, ifgrade, last, price, probe, say, station, through, tried, worth,
 )
 
 EVERY_OTHER_CALL = [
@@ -42,6 +42,8 @@ class Begin(unittest.TestCase):
 
     def test_not_begun_goes_before_every_other_refusal(self):
         wrong = [ends(41, 41), grade(11), price(0, 0), ground(GREATEST, 41), fix(0, 41), free(0), tried()]
+        wrong += [ifgrade(41), between(GREATEST), through(GREATEST, 41), through(0, 41), worth(0), worth(GREATEST)]
+        wrong += [station(GREATEST)]
         self.assertEqual(say(*wrong), [[NOT_BEGUN]] * len(wrong))
 
     def test_a_call_before_it_leaves_no_trace(self):
@@ -194,6 +196,8 @@ class Refused(unittest.TestCase):
             ends(41, 1), ends(1, 41), grade(11), price(0, 5), price(5, 0), price(11, 1), price(1, 11),
             ground(4, 1), ground(1, 41), fix(4, 1), fix(0, 1), fix(3, 1), fix(1, 41), fix(2, 41),
             free(4), free(0), free(3), free(2), tried(), tried(41, 1, 1, 1), tried(0, 0, 0, 0),
+            ifgrade(41), between(4), through(4, 1), through(1, 41), through(1, 7), worth(4), worth(0), worth(3), worth(2),
+            station(4),
         ]
         as_it_was = say(*calls, *probe(4))[len(calls):]
         for call in refused:

@@ -90,6 +90,42 @@ class Form(unittest.TestCase):
                 if isinstance(node, ast.arg):
                     self.assertNotIn(node.arg, dir(builtins), (name, node.lineno))
 
+    def test_no_parameter_or_local_is_called_like_an_import_or_a_class(self):
+        for name, tree in self.trees():
+            taken = {alias.name for node in tree.body if isinstance(node, ast.ImportFrom) for alias in node.names}
+            taken |= {node.name for node in tree.body if isinstance(node, ast.ClassDef)}
+            for node in ast.walk(tree):
+                if isinstance(node, ast.arg):
+                    self.assertNotIn(node.arg, taken, (name, node.lineno))
+                if isinstance(node, ast.Name) and isinstance(node.ctx, ast.Store):
+                    self.assertNotIn(node.id, taken, (name, node.lineno))
+
+    def test_imports_are_from_the_file_that_defines_the_name_and_go_one_way(self):
+        defined, drawn = {}, {}
+        for name, tree in self.trees():
+            module = "linelaid." + name.removesuffix(".py")
+            targets = [target.id for node in tree.body if isinstance(node, ast.Assign) for target in node.targets]
+            defs = [node.name for node in tree.body if isinstance(node, (ast.FunctionDef, ast.ClassDef))]
+            self.assertEqual(len(set(targets + defs)), len(targets + defs), name)
+            defined[module] = targets + defs
+            drawn[module] = [node for node in tree.body if isinstance(node, ast.ImportFrom)]
+        for module, nodes in drawn.items():
+            for node in nodes:
+                for alias in node.names:
+                    self.assertIn(alias.name, defined[node.module], module)
+        left = {module: {node.module for node in nodes} for module, nodes in drawn.items()}
+        while left:
+            ready = [module for module, needs in left.items() if not needs & set(left)]
+            self.assertTrue(ready, left)
+            left = {module: needs for module, needs in left.items() if module not in ready}
+
+    def test_every_import_is_used(self):
+        for name, tree in self.trees():
+            used = {node.id for node in ast.walk(tree) if isinstance(node, ast.Name)}
+            for node in tree.body:
+                if isinstance(node, ast.ImportFrom):
+                    self.assertLessEqual({alias.name for alias in node.names}, used, name)
+
     def test_methods(self):
         own = {node.name for name, tree in self.trees() for node in ast.walk(tree) if isinstance(node, ast.FunctionDef)}
         for name, tree in self.trees():

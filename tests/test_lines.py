@@ -1,9 +1,9 @@
-"""Promise 2: can, cost, line, earth, try, and the edges that the document names."""
+"""Promise 2: can, cost, line, earth, try, steep, flat, and the edges that the document names."""
 
 import unittest
 
 from tests.helper import (
-    CAN, COST, EARTH, GREATEST_IN_ROW, LINE, NO_LINE, OUT_OF_RANGE,
+    CAN, COST, EARTH, FLAT, GREATEST_IN_ROW, LINE, NO_LINE, OUT_OF_RANGE, STEEP,
     begin, ends, fix, free, grade, last, price, probe, say, tried,
 )
 
@@ -30,7 +30,7 @@ class Looking(unittest.TestCase):
     def test_looking_changes_nothing(self):
         for calls in ([begin(4, 8, 6, 7), grade(3), price(2, 9), fix(1, 6)], [begin(4, 8, 6, 7), grade(0)]):
             as_it_was = say(*calls, *probe(4))[len(calls):]
-            for look in [*LOOKS, tried(4, 6, 6, 7), tried(0, 0, 0, 0), tried(1)]:
+            for look in [*LOOKS, STEEP, FLAT, tried(4, 6, 6, 7), tried(0, 0, 0, 0), tried(1)]:
                 self.assertEqual(say(*calls, look, look, *probe(4))[len(calls) + 2:], as_it_was)
 
 
@@ -80,6 +80,98 @@ class Tried(unittest.TestCase):
 
     def test_is_refused_where_there_is_no_line_at_all(self):
         self.assertEqual(last(begin(0, 0, 3), tried(0, 0, 3)), [NO_LINE])
+
+
+class Steep(unittest.TestCase):
+    def test_answers_how_many_steps_then_from_which_stations(self):
+        self.assertEqual(last(begin(3, 4, 4, 5, 4), STEEP), [3, 0, 2, 3])
+        self.assertEqual(last(begin(5, 8, 5, 0, 5), STEEP), [4, 0, 1, 2, 3])
+
+    def test_rising_and_falling_both_count(self):
+        self.assertEqual(last(begin(3, 4, 4, 4), STEEP), [1, 0])
+        self.assertEqual(last(begin(4, 3, 3, 3), STEEP), [1, 0])
+
+    def test_lesser_steps_do_not_count(self):
+        self.assertEqual(last(begin(3, 4, 6, 4, 4), grade(2), STEEP), [2, 1, 2])
+        self.assertEqual(last(begin(3, 4, 6, 4, 4), grade(3), STEEP), [0])
+        self.assertEqual(last(begin(0, 10, 0, 9), grade(10), STEEP), [2, 0, 1])
+
+    def test_none_is_0_alone(self):
+        self.assertEqual(last(begin(4, 4, 4), STEEP), [0])
+
+    def test_is_of_the_line_and_not_of_the_ground(self):
+        self.assertEqual(last(begin(4, 4, 4, 4, 4), fix(2, 6), STEEP), [4, 0, 1, 2, 3])
+        self.assertEqual(last(begin(5, 6, 5, 4), ends(5, 5), fix(1, 5), fix(2, 5), STEEP), [0])
+
+    def test_is_of_the_first_of_two_lines_alike(self):
+        # 5 5 4 5 and 5 6 5 5 cost alike.
+        self.assertEqual(last(begin(5, 6, 4, 5), STEEP), [2, 1, 2])
+        self.assertEqual(last(begin(5, 6, 4, 5), price(2, 1), STEEP), [2, 0, 1])
+
+    def test_by_a_grade_of_0_every_step_counts(self):
+        self.assertEqual(last(begin(5, 9, 2, 5), grade(0), STEEP), [3, 0, 1, 2])
+        self.assertEqual(last(begin(5, 5), grade(0), STEEP), [1, 0])
+
+    def test_two_stations(self):
+        self.assertEqual(say(begin(7, 8), STEEP, grade(2), STEEP)[1::2], [[1, 0], [0]])
+
+    def test_the_last_step(self):
+        self.assertEqual(last(begin(5, 5, 5, 6), STEEP), [1, 2])
+        self.assertEqual(last(begin(5, 5, 5, 4), STEEP), [1, 2])
+
+    def test_from_0_to_40(self):
+        self.assertEqual(last(begin(0, 10, 20, 30, 40), grade(10), STEEP), [4, 0, 1, 2, 3])
+
+    def test_of_twelve_stations_at_most_eleven(self):
+        self.assertEqual(last(begin(*range(12)), STEEP), [11, *range(11)])
+
+    def test_refuses_where_there_is_no_line(self):
+        self.assertEqual(say(begin(0, 0, 3), STEEP, grade(0), STEEP)[1::2], [[NO_LINE]] * 2)
+
+
+class Flat(unittest.TestCase):
+    def test_answers_how_many_stations_then_where_they_begin(self):
+        self.assertEqual(last(begin(3, 4, 4, 5, 4), FLAT), [2, 1])
+        self.assertEqual(last(begin(4, 5, 5, 5, 4, 4), FLAT), [3, 1])
+
+    def test_of_like_ones_the_first(self):
+        self.assertEqual(last(begin(4, 4, 5, 5, 6, 6), FLAT), [2, 0])
+        self.assertEqual(last(begin(3, 4, 4, 5, 5), FLAT), [2, 1])
+
+    def test_a_longer_one_later(self):
+        self.assertEqual(last(begin(4, 4, 5, 5, 5), FLAT), [3, 2])
+        self.assertEqual(last(begin(4, 4, 5, 5, 5, 6, 6), FLAT), [3, 2])
+
+    def test_a_height_that_comes_back_begins_another(self):
+        self.assertEqual(last(begin(4, 5, 4, 5, 4), FLAT), [1, 0])
+        self.assertEqual(last(begin(4, 4, 5, 4, 4, 4), FLAT), [3, 3])
+        self.assertEqual(last(begin(4, 4, 5, 4, 4), FLAT), [2, 0])
+
+    def test_where_all_differ_it_is_the_first_station(self):
+        self.assertEqual(last(begin(3, 4, 5, 6), FLAT), [1, 0])
+
+    def test_is_of_the_line_and_not_of_the_ground(self):
+        self.assertEqual(last(begin(4, 4, 4, 4, 4), fix(2, 6), FLAT), [1, 0])
+        self.assertEqual(last(begin(4, 9, 0, 4), grade(0), FLAT), [4, 0])
+
+    def test_is_of_the_first_of_two_lines_alike(self):
+        # 5 5 4 5 and 5 6 5 5 cost alike.
+        self.assertEqual(last(begin(5, 6, 4, 5), FLAT), [2, 0])
+        self.assertEqual(last(begin(5, 6, 4, 5), price(2, 1), FLAT), [2, 2])
+
+    def test_two_stations(self):
+        self.assertEqual(say(begin(7, 8), FLAT, begin(7, 7), FLAT)[1::2], [[1, 0], [2, 0]])
+
+    def test_the_last_step(self):
+        self.assertEqual(last(begin(3, 4, 5, 5), FLAT), [2, 2])
+        self.assertEqual(last(begin(5, 5, 5, 6), FLAT), [3, 0])
+
+    def test_all_of_twelve_stations(self):
+        for height in (0, 40):
+            self.assertEqual(last(begin(*[height] * 12), FLAT), [12, 0])
+
+    def test_refuses_where_there_is_no_line(self):
+        self.assertEqual(say(begin(0, 0, 3), FLAT, grade(0), FLAT)[1::2], [[NO_LINE]] * 2)
 
 
 class Edges(unittest.TestCase):
